@@ -1,0 +1,1 @@
+"""Tidehall: machines. The one function to call is tidemachine.desk.answers."""
