@@ -7,6 +7,11 @@ from tidemachine.desk import answers
 PRINT = [2]
 SIZE = [3]
 
+LEAST = -2 ** 31
+GREATEST = 2 ** 31 - 1
+# The greatest number that may be handed in.
+FAR = 4294967296
+
 
 def bytes_of(text):
     """A text's bytes, of str or bytes."""
@@ -25,6 +30,26 @@ def sky(text):
 
 def speed(number):
     return [4, number]
+
+
+def at(number, steps):
+    return [5, number, steps]
+
+
+def pen(steps, count):
+    return [6, steps, count]
+
+
+def right(number, part):
+    return [7, number, part]
+
+
+def first(part):
+    return [8, part]
+
+
+def draw(steps, wide, high, low, scale):
+    return [9, steps, wide, high, low, scale]
 
 
 def asked(*calls):
@@ -47,12 +72,55 @@ def asked_last(*calls):
     return asked(*calls)[-1]
 
 
+def pens(text, steps, count):
+    """Where the pen of a right machine's text stands, as a list."""
+    answer = asked_last(machine(text), pen(steps, count))
+    if answer[:2] != [0, count] or len(answer) != count + 2:
+        raise AssertionError(f"not a list of {count} pens: {answer}")
+    return answer[2:]
+
+
 def printed(text):
     """The printed text of a right machine's text, as str."""
     answer = asked_last(machine(text), PRINT)
     if answer[0] != 0 or answer[1] != len(answer) - 2:
         raise AssertionError(f"not a printed text: {answer}")
     return bytes(answer[2:]).decode("latin-1")
+
+
+# The tests' own cosine: whole numbers, this many times what they stand for, and no quarters.
+FINE = 2 ** 320
+
+
+def arc_tangent_of_one_over(number):
+    total, power, odd = 0, FINE // number, 1
+    while power > 0:
+        total += power // odd if odd % 4 == 1 else -(power // odd)
+        power //= number * number
+        odd += 2
+    return total
+
+
+# Machin's way: a quarter of pi is 4 times the arc tangent of 1 / 5 less that of 1 / 239.
+TWO_PI = 8 * (4 * arc_tangent_of_one_over(5) - arc_tangent_of_one_over(239))
+
+
+def true_cosine(above, below):
+    """FINE times the cosine of above / below of a turn, right but for its last 40 bits at most."""
+    arc = TWO_PI * above // below
+    square = arc * arc // FINE
+    total, number = 0, 0
+    term = FINE
+    while term > 0:
+        total += term if number % 4 == 0 else -term
+        number += 2
+        term = term * square // FINE // (number * (number - 1))
+    return total
+
+
+def true_ray_cosine(angle):
+    """The whole number nearest to 2^30 times the angle's cosine."""
+    return (true_cosine(angle, 2 ** 32) * 2 ** 30 + FINE // 2) // FINE
 
 
 class TextCase(unittest.TestCase):

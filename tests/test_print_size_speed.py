@@ -3,7 +3,7 @@
 import unittest
 from fractions import Fraction
 
-from tests.helper import PRINT, SIZE, asked, asked_last, machine, printed, speed
+from tests.helper import PRINT, SIZE, asked, asked_last, at, draw, first, machine, pen, printed, right, sky, speed
 
 
 def with_size(size):
@@ -49,7 +49,8 @@ class Print(unittest.TestCase):
             once = printed(text)
             self.assertEqual(asked(machine(once)), [[0]])
             self.assertEqual(printed(once), once)
-            asks = (SIZE, speed(0), speed(1), speed(2))
+            asks = (SIZE, speed(0), speed(1), speed(2), at(0, 5), at(1, -5), pen(0, 20), draw(0, 20, 20, -99999, 9999),
+                    sky("angle a 0 3\nwave A a\nwave B a\n"), right(0, 7), right(1, 7), first(7))
             self.assertEqual(asked(machine(once), *asks), asked(machine(text), *asks))
 
     def test_printing_leaves_the_machine(self):

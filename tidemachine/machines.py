@@ -1,4 +1,4 @@
-"""Machines' texts: read, judged and printed; and what a machine's trains are by themselves."""
+"""Machines' texts: read, judged and printed."""
 
 from tidemachine.fault import Fault, NAME_TWICE
 from tidemachine.reader import Reader
@@ -141,23 +141,3 @@ def printed_pair(pair):
 
 def bytes_of(text):
     return [ord(sign) for sign in text]
-
-
-# By how much of a turn the train's last wheel turns in a minute: a tuple of two numbers, in lowest terms.
-def speed_of(machine, train):
-    above = 1
-    below = machine.minutes
-    for pair in train.pairs:
-        above = above * pair[0]
-        below = below * pair[1]
-    common = common_divisor(above, below)
-    return (above // common, below // common)
-
-
-# The greatest whole number that divides both.
-def common_divisor(one, other):
-    while other > 0:
-        rest = one % other
-        one = other
-        other = rest
-    return one
